@@ -1,0 +1,1 @@
+"""Onceround: rows and rings in which each word stands just once."""
