@@ -22,6 +22,12 @@ PYTHONS_METHODS = set(
     "setdefault split splitlines startswith strip update upper values zfill bit_length".split()
 )
 WALKED_AT_ONCE = {"zip", "enumerate", "reversed", "range"}
+VIEWS = {"items", "keys", "values"}
+WALKERS = {"list", "tuple", "dict", "sorted", "sum", "any", "all", "enumerate", "zip"}
+KEYWORDS = {
+    "sorted": {"key", "reverse"}, "min": {"key", "default"}, "max": {"key", "default"}, "sum": {"start"},
+    "enumerate": {"start"}, "zip": {"strict"},
+}
 WORDS_NOWHERE = (
     r"\b(type|typing|typing_extensions|enum|Enum|IntEnum|StrEnum|Flag|IntFlag|Generic|Protocol|ABC|ABCMeta|namedtuple"
     r"|NamedTuple|TypedDict|TYPE_CHECKING|abstractmethod)\b|dataclass|overload|contextmanager"
@@ -52,6 +58,34 @@ def parsed():
 
 def nodes(*kinds):
     return [(name, node) for name, tree in parsed() for node in ast.walk(tree) if isinstance(node, kinds)]
+
+
+def with_parents(*kinds):
+    found = []
+    for name, tree in parsed():
+        parent = {part: node for node in ast.walk(tree) for part in ast.iter_child_nodes(node)}
+        found += [(name, node, parent[node]) for node in ast.walk(tree) if isinstance(node, kinds) and node in parent]
+    return found
+
+
+def called(node):
+    """The name that a call calls, and whether it is a method."""
+    if isinstance(node, ast.Call) and isinstance(node.func, ast.Name):
+        return node.func.id, False
+    if isinstance(node, ast.Call) and isinstance(node.func, ast.Attribute):
+        return node.func.attr, True
+    return None, False
+
+
+def is_walked(node, parent):
+    if isinstance(parent, (ast.For, ast.comprehension)):
+        return parent.iter is node
+    name, method = called(parent)
+    if method:
+        return name == "join" and isinstance(parent.func.value, ast.Constant)
+    if name in ("min", "max"):
+        return parent.args == [node]
+    return name in WALKERS and (parent.args[0] is node or name == "zip")
 
 
 def top_names(tree):
@@ -242,11 +276,40 @@ class Names(unittest.TestCase):
         kept = {node.attr for _, node in nodes(ast.Attribute) if isinstance(node.ctx, ast.Store)}
         self.assertEqual(methods & kept, set())
 
-    def test_no_walk_is_kept(self):
-        for name, node in nodes(ast.Assign, ast.Return):
-            value = node.value
-            if isinstance(value, ast.Call) and isinstance(value.func, ast.Name):
-                self.assertNotIn(value.func.id, WALKED_AT_ONCE | {"set", "frozenset"}, (name, node.lineno))
+
+class Calls(unittest.TestCase):
+    def test_what_is_to_be_walked_is_walked_at_once(self):
+        for name, node, parent in with_parents(ast.Call):
+            word, method = called(node)
+            if word in (VIEWS if method else WALKED_AT_ONCE):
+                self.assertTrue(is_walked(node, parent), (name, node.lineno))
+
+    def test_sets_are_not_kept(self):
+        for name, node, parent in with_parents(ast.Call, ast.Set):
+            if isinstance(node, ast.Set) or called(node) in (("set", False), ("frozenset", False)):
+                in_place = called(parent) in (("sorted", False), ("len", False)) and parent.keywords == []
+                beside = isinstance(parent, (ast.Compare, ast.BinOp))
+                self.assertTrue(in_place or beside, (name, node.lineno))
+
+    def test_keywords_of_pythons_own(self):
+        for name, node in nodes(ast.Call):
+            word, method = called(node)
+            if word in PYTHONS_METHODS if method else hasattr(builtins, str(word)):
+                given = {part.arg for part in node.keywords}
+                self.assertLessEqual(given, KEYWORDS.get(word, set()), (name, node.lineno))
+
+    def test_pythons_own_are_called_not_handed_on(self):
+        for name, node, parent in with_parents(ast.Name):
+            if hasattr(builtins, node.id) and not isinstance(getattr(builtins, node.id), type):
+                as_key = isinstance(parent, ast.keyword) and parent.arg == "key"
+                self.assertTrue(as_key or getattr(parent, "func", None) is node, (name, node.lineno))
+
+    def test_errors_are_taken_by_their_own_names(self):
+        for name, node in nodes(ast.ExceptHandler):
+            for part in ast.walk(node.type):
+                self.assertNotIn(getattr(part, "id", None), ("Exception", "TypeError"), (name, node.lineno))
+        for name, node in nodes(ast.Raise):
+            self.assertIsInstance(node.exc, ast.Call, (name, node.lineno))
 
 
 if __name__ == "__main__":
