@@ -88,6 +88,17 @@ def is_walked(node, parent):
     return name in WALKERS and (parent.args[0] is node or name == "zip")
 
 
+def is_read(node, parent):
+    """Whether a list or dict of a file's top is only read where it stands."""
+    if isinstance(parent, (ast.For, ast.comprehension)):
+        return parent.iter is node
+    if isinstance(parent, ast.Subscript):
+        return isinstance(parent.ctx, ast.Load)
+    if isinstance(parent, ast.Attribute):
+        return parent.attr in ("get", "items", "keys", "values", "count", "index", "copy")
+    return isinstance(parent, ast.Compare) or called(parent) in [(word, False) for word in ("len", "list", "dict")]
+
+
 def top_names(tree):
     named = [node.name for node in tree.body if isinstance(node, (ast.FunctionDef, ast.ClassDef))]
     return named + [node.targets[0].id for node in tree.body if isinstance(node, ast.Assign)]
@@ -166,6 +177,19 @@ class Tops(unittest.TestCase):
             free = [name for name in drawn if not drawn[name] & set(drawn)]
             self.assertTrue(free, drawn)
             drawn = {name: drawn[name] for name in drawn if name not in free}
+
+    def test_lists_and_dicts_are_only_read(self):
+        for name, tree in parsed():
+            kept = [node for node in tree.body if isinstance(node, ast.Assign)]
+            kept = [node for node in kept if isinstance(node.value, (ast.List, ast.Dict))]
+            for node in kept:
+                inner = [part for part in ast.walk(node.value) if isinstance(part, (ast.List, ast.Dict))]
+                self.assertEqual(inner, [node.value], (name, node.lineno))
+            words = [node.targets[0].id for node in kept]
+            parent = {part: node for node in ast.walk(tree) for part in ast.iter_child_nodes(node)}
+            for node in ast.walk(tree):
+                if isinstance(node, ast.Name) and node.id in words and isinstance(node.ctx, ast.Load):
+                    self.assertTrue(is_read(node, parent[node]), (name, node.lineno))
 
     def test_init_binds_nothing(self):
         for name, tree in parsed():
