@@ -70,6 +70,13 @@ def slow_exchange(ring, length, deed):
     return "".join(word[0] for word in words)
 
 
+def tuples_for(ring):
+    """All tuples of places of a small ring, and some beyond; of a greater one those that don't descend."""
+    if len(ring) <= 4:
+        return itertools.product(range(len(ring) + 2), repeat=4)
+    return itertools.combinations_with_replacement(range(-1, len(ring) + 3), 4)
+
+
 def wrong_texts(ring):
     """Texts that are not the ring; most of them are no rings at all."""
     yield ""
@@ -177,19 +184,18 @@ class Exchanges(Case):
     def test_all_exchanges_of_small_webs(self):
         for words, rings in RINGED:
             web = Web(words)
-            for ring in rings if len(words) < 9 else rings[::6]:
+            for ring in rings:
                 self.are_deeds(all_exchanges(web, ring), slow_exchanges(ring, web.length))
 
     def test_all_tuples_of_small_webs(self):
-        for words, rings in RINGED[::2]:
-            if len(words) <= 5:
-                web = Web(words)
-                for ring in rings[:2]:
-                    for deed in itertools.product(range(-1, len(ring) + 3), repeat=4):
-                        expected = is_slow_exchange(ring, web.length, deed)
-                        self.assertIs(is_exchange(web, ring, deed), expected)
-                        if expected:
-                            self.is_text(exchange(web, ring, deed), slow_exchange(ring, web.length, deed))
+        for words, rings in RINGED:
+            web = Web(words)
+            for ring in rings:
+                for deed in tuples_for(ring):
+                    expected = is_slow_exchange(ring, web.length, deed)
+                    self.assertIs(is_exchange(web, ring, deed), expected)
+                    if expected:
+                        self.is_text(exchange(web, ring, deed), slow_exchange(ring, web.length, deed))
 
     def test_tuples_of_greater_webs(self):
         for words, rings in RINGED:
@@ -364,10 +370,9 @@ class Led(Case):
     def test_all_pairs_of_small_webs(self):
         for words, rings in RINGED:
             web = Web(words)
-            for one in rings if len(rings) < 60 else rings[::5]:
-                for two in rings if len(rings) < 60 else rings[::7]:
-                    deeds = self.leads(web, one, two)
-                    self.assertEqual(deeds == [], one == two)
+            for one, two in itertools.product(rings, repeat=2):
+                deeds = self.leads(web, one, two)
+                self.assertEqual(deeds == [], one == two)
 
     def test_walked_comes_to_the_other_ring(self):
         for words, rings in RINGED[::5]:
